@@ -17,6 +17,11 @@ class User:
         """Tell whether this user can take the water that the other one returns."""
         return self.supply_grade <= other.return_grade
 
+    def cost(self, prices):
+        """Add up the prices of the grades that this user occupies."""
+        # Grade 1 has the price at place 0, so the grades above the return grade begin at the place of its number.
+        return sum(prices[self.return_grade:self.supply_grade])
+
 
 def load_of(users, grade):
     """Count the users that occupy the grade."""

@@ -11,9 +11,19 @@ LOAD = 5
 PEAK_LOAD = 6
 PEAK_GRADE = 7
 MIN_CASCADES = 8
+ASSIGN_CASCADES = 9
+IS_SERVABLE = 10
+BEST_SET = 11
+VALUE_OF = 12
+MARGINAL_VALUE = 13
+CAN_FOLLOW = 14
+PEAK_USERS = 15
+DUAL_BOUND = 16
+PROVES_OPTIMALITY = 17
+LOSS_WITHOUT = 18
 
-# The place is a call's number: so many numbers come behind it. assign_cascades is the last.
-ARGUMENT_COUNTS = (1, 3, 1, 0, 2, 1, 0, 0, 0, 1)
+# The place is a call's number, summary's the last: so many numbers come behind it, and then its prices.
+ARGUMENT_COUNTS = (1, 3, 1, 0, 2, 1, 0, 0, 0, 1, 2, 1, 1, 1, 2, 0, 2, 2, 2, 0)
 
 
 def answer_about_users(network, call, given):
@@ -40,6 +50,32 @@ def answer_about_load(network, call, given):
     return network.assign_cascades(given[0])
 
 
+def answer_about_sets(network, call, given):
+    """Answer a call from is_servable to marginal_value."""
+    if call == IS_SERVABLE:
+        return network.is_servable(given[0], given[1])
+    if call == BEST_SET:
+        return network.best_set(given[0])
+    if call == VALUE_OF:
+        return network.value_of(given[0])
+    return network.marginal_value(given[0])
+
+
+def answer_the_rest(network, call, given):
+    """Answer a call from can_follow to summary."""
+    if call == CAN_FOLLOW:
+        return network.can_follow(given[0], given[1])
+    if call == PEAK_USERS:
+        return network.peak_users()
+    if call == DUAL_BOUND:
+        return network.dual_bound(given[0], given[2:])
+    if call == PROVES_OPTIMALITY:
+        return network.proves_optimality(given[0], given[2:])
+    if call == LOSS_WITHOUT:
+        return network.loss_without(given[0], given[1])
+    return network.summary()
+
+
 def answer(network, call, given):
     """Answer one call; that there is no network goes ahead of every other error."""
     if call == CREATE:
@@ -48,7 +84,21 @@ def answer(network, call, given):
         return [NO_NETWORK]
     if call <= SET_VALUE:
         return answer_about_users(network, call, given)
-    return answer_about_load(network, call, given)
+    if call <= ASSIGN_CASCADES:
+        return answer_about_load(network, call, given)
+    if call <= MARGINAL_VALUE:
+        return answer_about_sets(network, call, given)
+    return answer_the_rest(network, call, given)
+
+
+def place_behind(calls, place):
+    """Answer the place behind the call at this place and all that it is given."""
+    call = calls[place]
+    behind = place + 1 + ARGUMENT_COUNTS[call]
+    if call == DUAL_BOUND or call == PROVES_OPTIMALITY:
+        # The last number so far is the count of the prices. They belong to the call however it is answered.
+        return behind + calls[behind - 1]
+    return behind
 
 
 def answers(calls):
@@ -57,9 +107,8 @@ def answers(calls):
     told = []
     place = 0
     while place < len(calls):
-        call = calls[place]
-        behind = place + 1 + ARGUMENT_COUNTS[call]
-        answered = answer(network, call, calls[place + 1:behind])
+        behind = place_behind(calls, place)
+        answered = answer(network, calls[place], calls[place + 1:behind])
         told.append(len(answered))
         told.extend(answered)
         place = behind

@@ -1,11 +1,9 @@
-"""min_cascades, assign_cascades and requirement 1."""
+"""min_cascades and assign_cascades."""
 
-import itertools
-import random
 import unittest
 
 from tests.session import (
-    BIGGEST, assign_cascades, create, list_users, min_cascades, network, remove_user, told, told_on,
+    BIGGEST, assign_cascades, cascades_in, create, list_users, min_cascades, network, remove_user, told, told_on,
 )
 
 THREE = [(5, 3, 10), (3, 1, 6), (4, 2, 9)]
@@ -15,52 +13,6 @@ EIGHT = THREE + [(1, 0, 0), (5, 0, 100), (2, 1, 7), (5, 4, 1), (3, 0, 2)]
 def written(cascades):
     """An assignment as the program answers it."""
     return [len(cascades)] + [number for cascade in cascades for number in [len(cascade)] + cascade]
-
-
-def read(answer):
-    """The cascades of an answer."""
-    cascades = []
-    place = 1
-    while place < len(answer):
-        behind = place + 1 + answer[place]
-        cascades.append(answer[place + 1:behind])
-        place = behind
-    return cascades
-
-
-def members(user_set):
-    return [user for user in range(8) if user_set & 2 ** user]
-
-
-def peak(users, chosen):
-    return max(sum(users[user][1] < grade <= users[user][0] for user in chosen) for grade in range(1, 13))
-
-
-def can_follow(users, following, leading):
-    return users[following][0] <= users[leading][1]
-
-
-def fewest(users, chosen, cascades=()):
-    """The fewest cascades that hold the chosen users, found by trying every way to share them out."""
-    if not chosen:
-        return len(cascades)
-    user, rest = chosen[0], chosen[1:]
-    best = fewest(users, rest, cascades + ((user,),))
-    for place, cascade in enumerate(cascades):
-        if all(can_follow(users, user, other) or can_follow(users, other, user) for other in cascade):
-            longer = cascades[:place] + (cascade + (user,),) + cascades[place + 1:]
-            best = min(best, fewest(users, rest, longer))
-    return best
-
-
-def assigned(grade_count, users, sets):
-    """The assignment of each set; the sets are shared out over sessions of at most 200 calls."""
-    build = network(grade_count, users)
-    room = 200 - len(build)
-    answers = []
-    for start in range(0, len(sets), room):
-        answers += told_on(build, *map(assign_cascades, sets[start:start + room]))
-    return answers
 
 
 class AssignCascadesTest(unittest.TestCase):
@@ -111,7 +63,7 @@ class AssignCascadesTest(unittest.TestCase):
                 last, behind = told_on(
                     network(5, EIGHT[:count]), assign_cascades(2 ** count - 1), assign_cascades(2 ** count),
                 )
-                self.assertEqual(sorted(sum(read(last), [])), list(range(count)))
+                self.assertEqual(sorted(sum(cascades_in(last), [])), list(range(count)))
                 self.assertEqual(behind, [-2])
 
     def test_sets_with_users_that_do_not_exist(self):
@@ -153,52 +105,6 @@ class MinCascadesTest(unittest.TestCase):
             told_on(network(5, THREE), remove_user(2), min_cascades(), remove_user(0), min_cascades()),
             [[2], [1], [1], [1]],
         )
-
-
-class RequirementTest(unittest.TestCase):
-    """Requirement 1, at every small network and at many bigger ones."""
-
-    def check(self, users, user_set, answer):
-        chosen = members(user_set)
-        cascades = read(answer)
-        self.assertEqual(answer[0], len(cascades))
-        self.assertEqual(len(cascades), peak(users, chosen))
-        self.assertEqual(sorted(sum(cascades, [])), chosen)
-        for cascade in cascades:
-            self.assertNotEqual(cascade, [])
-            for leading, following in zip(cascade, cascade[1:]):
-                self.assertTrue(can_follow(users, following, leading))
-
-    def check_network(self, grade_count, users, sets):
-        for user_set, answer in zip(sets, assigned(grade_count, users, sets), strict=True):
-            with self.subTest(users=users, user_set=user_set):
-                self.check(users, user_set, answer)
-
-    def test_small_networks_have_no_fewer(self):
-        kinds = [(top, bottom, 1) for top in (1, 2, 3, 4) for bottom in range(top)]
-        for count in range(4):
-            for users in itertools.product(kinds, repeat=count):
-                answer, least = told_on(network(4, users), assign_cascades(2 ** count - 1), min_cascades())
-                self.check(users, 2 ** count - 1, answer)
-                self.assertEqual(least, answer[:1])
-                self.assertEqual(least, [fewest(users, tuple(range(count)))])
-
-    def test_bigger_networks(self):
-        draw = random.Random(20)
-        for turn in range(200):
-            grade_count = draw.randint(1, 12)
-            users = []
-            for user in range(draw.randint(0, 8)):
-                top = draw.randint(1, grade_count)
-                users.append((top, draw.randint(max(0, top - draw.randint(1, 12)), top - 1), draw.randint(0, 100)))
-            sets = list(range(2 ** len(users)))
-            self.check_network(grade_count, users, sets)
-            self.assertEqual(
-                told_on(network(grade_count, users), min_cascades()),
-                [assigned(grade_count, users, sets[-1:])[0][:1]],
-            )
-            if turn < 20:
-                self.assertEqual(peak(users, range(len(users))), fewest(users, tuple(range(len(users)))))
 
 
 if __name__ == "__main__":

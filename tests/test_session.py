@@ -4,11 +4,13 @@ import unittest
 
 from heatcascades.supply import answers
 from tests.session import (
-    BIGGEST, add_user, assign_cascades, create, list_users, load, min_cascades, network, peak_grade, peak_load,
-    remove_user, set_value, told, told_on,
+    BIGGEST, add_user, assign_cascades, best_set, can_follow, create, dual_bound, is_servable, list_users, load,
+    loss_without, marginal_value, min_cascades, network, peak_grade, peak_load, peak_users, proves_optimality,
+    remove_user, set_value, summary, told, told_on, value_of,
 )
 
 THREE = [(5, 3, 10), (3, 1, 6), (4, 2, 9)]
+PRICES = [0, 6, 0, 10, 0]
 
 # Each call but create, with arguments that would do and with such as break every other rule.
 AHEAD_OF_CREATE = [
@@ -19,6 +21,17 @@ AHEAD_OF_CREATE = [
     load(0), load(1), load(BIGGEST),
     peak_load(), peak_grade(), min_cascades(),
     assign_cascades(0), assign_cascades(1), assign_cascades(BIGGEST),
+    is_servable(0, 0), is_servable(1, 1), is_servable(BIGGEST, BIGGEST),
+    best_set(0), best_set(8), best_set(9), best_set(BIGGEST),
+    value_of(0), value_of(1), value_of(BIGGEST),
+    marginal_value(0), marginal_value(1), marginal_value(8), marginal_value(BIGGEST),
+    can_follow(0, 0), can_follow(0, 1), can_follow(BIGGEST, BIGGEST),
+    peak_users(),
+    # Prices that would make a network, were they read as calls.
+    dual_bound(1, []), dual_bound(1, [0, 5, 0, 5]), dual_bound(BIGGEST, [0, 5] * 30), dual_bound(0, [BIGGEST]),
+    proves_optimality(1, []), proves_optimality(1, [0, 5, 0, 5]), proves_optimality(BIGGEST, [0, 5] * 30),
+    loss_without(0, 1), loss_without(0, 9), loss_without(BIGGEST, BIGGEST),
+    summary(),
 ]
 
 # Each call with arguments that it refuses on a network of 5 grades and the three users.
@@ -29,10 +42,24 @@ REFUSED = [
     (set_value(3, 1), -2), (set_value(0, 101), -22), (set_value(3, 101), -2),
     (load(0), -22), (load(6), -22), (load(BIGGEST), -22),
     (assign_cascades(8), -2), (assign_cascades(BIGGEST), -2),
+    (is_servable(8, 1), -2), (is_servable(BIGGEST, BIGGEST), -2),
+    (best_set(9), -22), (best_set(BIGGEST), -22),
+    (value_of(8), -2), (value_of(BIGGEST), -2),
+    (marginal_value(0), -22), (marginal_value(9), -22), (marginal_value(BIGGEST), -22),
+    (can_follow(3, 0), -2), (can_follow(0, 3), -2), (can_follow(BIGGEST, BIGGEST), -2),
+    (dual_bound(9, PRICES), -22), (dual_bound(1, PRICES[:4]), -22), (dual_bound(1, PRICES + [0]), -22),
+    (dual_bound(1, []), -22), (dual_bound(1, [0, 0, 1001, 0, 0]), -22), (dual_bound(9, [BIGGEST] * 60), -22),
+    (proves_optimality(9, PRICES), -22), (proves_optimality(1, PRICES[:4]), -22),
+    (proves_optimality(1, PRICES + [0]), -22), (proves_optimality(1, []), -22),
+    (proves_optimality(1, [0, 0, 1001, 0, 0]), -22), (proves_optimality(9, [BIGGEST] * 60), -22),
+    (loss_without(3, 1), -2), (loss_without(0, 9), -22), (loss_without(3, 9), -2),
 ]
 
 LOOKS = [list_users(), load(1), load(2), load(3), load(4), load(5), load(6), peak_load(), peak_grade(),
-         min_cascades(), assign_cascades(7), assign_cascades(8)]
+         min_cascades(), assign_cascades(7), assign_cascades(8), is_servable(7, 1), is_servable(7, 2),
+         is_servable(8, 2), best_set(1), best_set(2), value_of(5), value_of(8), marginal_value(1), marginal_value(2),
+         can_follow(0, 1), can_follow(1, 0), peak_users(), dual_bound(1, PRICES), proves_optimality(1, PRICES),
+         dual_bound(1, [0] * 5), loss_without(0, 1), loss_without(1, 1), loss_without(2, 2), summary()]
 
 
 class AheadOfCreateTest(unittest.TestCase):
@@ -86,9 +113,10 @@ class ExampleTest(unittest.TestCase):
         self.assertEqual(
             told([
                 create(5), add_user(5, 3, 10), add_user(3, 1, 6), add_user(4, 2, 9), peak_load(), assign_cascades(7),
+                best_set(1), dual_bound(1, [0, 6, 0, 10, 0]), proves_optimality(1, [0, 6, 0, 10, 0]),
                 add_user(3, 3, 1),
             ]),
-            [[0], [0], [1], [2], [2], [2, 2, 0, 1, 1, 2], [-22]],
+            [[0], [0], [1], [2], [2], [2, 2, 0, 1, 1, 2], [16, 3], [16], [1], [-22]],
         )
 
 
@@ -135,6 +163,10 @@ class FormTest(unittest.TestCase):
         self.assertEqual(len(steps), 200)
         whole = [8] + [number for user in range(8) for number in (1, user)]
         self.assertEqual(told(steps), [[0]] + [[user] for user in range(8)] + [whole] * 191)
+
+    def test_two_hundred_calls_with_the_most_prices(self):
+        steps = [create(12)] + [dual_bound(8, [1000] * 60)] * 198 + [dual_bound(8, [1000] * 12)]
+        self.assertEqual(told(steps), [[0]] + [[-22]] * 198 + [[96000]])
 
     def test_create_at_any_place(self):
         self.assertEqual(
